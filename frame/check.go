@@ -1,12 +1,15 @@
 package frame
 
-import "hailstone/api"
+import (
+	"hailstone/api"
+	"hailstone/lists"
+)
 
 func (f Field) valid() bool {
 	side := Range{Lo: 1, Hi: api.MaxFrameSide}
 	// The sides come first, so that the places are counted only if they are few.
 	return side.has(f.Rows) && side.has(f.Columns) && f.places() <= api.MaxFramePlaces &&
-		len(f.Stems) == f.places() && each(f.Stems, isStems)
+		len(f.Stems) == f.places() && lists.Each(f.Stems, isStems)
 }
 
 func (f Field) hasPlace(n int) bool { return Range{Hi: f.places() - 1}.has(n) }
@@ -20,7 +23,7 @@ func isPart(n int) bool { return Range{Hi: api.MaxFrameHundred}.has(n) }
 
 // valid reports whether the survey is valid, but for how many counts, and choices, there are.
 func (s Survey) valid() bool {
-	return s.Field.valid() && isStems(s.Smooth) && each(s.Counts, s.validCount)
+	return s.Field.valid() && isStems(s.Smooth) && lists.Each(s.Counts, s.validCount)
 }
 
 func (s Survey) validCount(c Count) bool {

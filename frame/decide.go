@@ -1,5 +1,7 @@
 package frame
 
+import "hailstone/lists"
+
 // sides has the truths of a survey, by whether their share is at least a part.
 type sides struct {
 	above, below []hits
@@ -23,7 +25,7 @@ func (s sides) decide(places []int) bool {
 	for _, h := range s.above {
 		seen[h.at(places)] = true
 	}
-	return each(s.below, func(h hits) bool { return !seen[h.at(places)] })
+	return lists.Each(s.below, func(h hits) bool { return !seen[h.at(places)] })
 }
 
 // at returns the hits of these places alone.

@@ -5,6 +5,7 @@ import (
 	"slices"
 
 	"hailstone/api"
+	"hailstone/lists"
 )
 
 // hits has the hits of all places. Beyond the places that there are it has 0.
@@ -63,6 +64,14 @@ func (s Survey) share(h hits) int {
 		return 0
 	}
 	return sum(h[:]...) * api.MaxFrameHundred / all
+}
+
+func sum(numbers ...int) int {
+	all := 0
+	for _, n := range numbers {
+		all += n
+	}
+	return all
 }
 
 // jumps reports whether the hits of the place differ too much from those of a neighbour with a smaller number.
@@ -128,7 +137,7 @@ func (w work) span(q question) Range {
 	for h := range w.truths() {
 		numbers = append(numbers, q.number(w, h))
 	}
-	return Range{Lo: minimum(numbers...), Hi: slices.Max(numbers)}
+	return Range{Lo: lists.Minimum(numbers...), Hi: slices.Max(numbers)}
 }
 
 // canLeave reports whether the counts of the list can be left out.

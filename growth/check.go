@@ -1,6 +1,9 @@
 package growth
 
-import "hailstone/api"
+import (
+	"hailstone/api"
+	"hailstone/lists"
+)
 
 // hundred is all of a crop: damage, what is seen and what recovers are hundredths.
 const hundred = 100
@@ -13,11 +16,11 @@ func tooMany(s Season) bool {
 // valid reports whether the season is valid, but for sizes of ranges that are too great in all.
 func (s Season) valid() bool {
 	return s.Last >= 0 && len(s.Rules) > 0 && len(s.Fields) > 0 &&
-		each(s.Rules, s.validRule) && each(s.Fields, s.validField) && each(s.Visits, s.validVisit)
+		lists.Each(s.Rules, s.validRule) && lists.Each(s.Fields, s.validField) && lists.Each(s.Visits, s.validVisit)
 }
 
 func (s Season) validRule(rule []int) bool {
-	return len(rule) == s.Last+1 && each(rule, isHundredths)
+	return len(rule) == s.Last+1 && lists.Each(rule, isHundredths)
 }
 
 func (s Season) validField(f Field) bool {

@@ -3,6 +3,8 @@ package growth
 import (
 	"iter"
 	"slices"
+
+	"hailstone/lists"
 )
 
 // work is a season at work. It must be valid.
@@ -73,7 +75,7 @@ func (w work) truths(field int) iter.Seq[course] {
 
 // allows reports whether all visits of the field are right.
 func (s Season) allows(field int, c course) bool {
-	return each(s.Visits, func(v Visit) bool { return v.Field != field || v.Seen.has(c.seen(v.Week)) })
+	return lists.Each(s.Visits, func(v Visit) bool { return v.Field != field || v.Seen.has(c.seen(v.Week)) })
 }
 
 func (w work) hasTruth() bool {
@@ -115,7 +117,7 @@ func (w work) span(field int, q question) Range {
 	for c := range w.truths(field) {
 		numbers = append(numbers, q.number(c))
 	}
-	return Range{Lo: minimum(numbers...), Hi: slices.Max(numbers)}
+	return Range{Lo: lists.Minimum(numbers...), Hi: slices.Max(numbers)}
 }
 
 func (w work) bound(field int) Bound {

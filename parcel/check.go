@@ -1,6 +1,9 @@
 package parcel
 
-import "hailstone/api"
+import (
+	"hailstone/api"
+	"hailstone/lists"
+)
 
 func tooMany(b Book) bool {
 	return b.Owners > api.MaxParcelOwners || len(b.Parcels) > api.MaxParcelParcels || len(b.Entries) > api.MaxParcelEntries
@@ -8,7 +11,7 @@ func tooMany(b Book) bool {
 
 // valid reports whether the book is valid, but for numbers that are too great in all.
 func (w work) valid() bool {
-	return within(w.Last, 0, api.MaxParcelLast) && w.Owners >= 1 && each(w.Parcels, w.validParcel) && each(w.Entries, w.validEntry)
+	return within(w.Last, 0, api.MaxParcelLast) && w.Owners >= 1 && lists.Each(w.Parcels, w.validParcel) && lists.Each(w.Entries, w.validEntry)
 }
 
 func (w work) validParcel(p Parcel) bool {
@@ -46,6 +49,8 @@ func (w work) isDay(day int) bool { return within(day, 0, w.Last) }
 func (w work) isOwner(owner int) bool { return within(owner, 0, w.Owners-1) }
 
 func (w work) isNumber(parcel int) bool { return within(parcel, 0, w.numbers-1) }
+
+func within(n, low, high int) bool { return low <= n && n <= high }
 
 // fits reports whether the truth has one day of each range.
 func (w work) fits(t Truth) bool {

@@ -5,6 +5,7 @@ import (
 	"slices"
 
 	"hailstone/api"
+	"hailstone/lists"
 )
 
 // Range has all whole numbers from Lo to Hi, both included.
@@ -116,7 +117,7 @@ func Covered(b Book, parcel, day int) (int, api.Errno) {
 	}
 	covered := func(end states) bool { return end[parcel].covered(day) }
 	switch {
-	case each(ends, covered):
+	case lists.Each(ends, covered):
 		return Always, api.OK
 	case slices.ContainsFunc(ends, covered):
 		return Perhaps, api.OK
@@ -178,17 +179,8 @@ func Leave(b Book) ([]int, api.Errno) {
 		return nil, e
 	}
 	w := open(b)
-	var smallest []int
-search:
-	for size := range len(w.Entries) + 1 {
-		for list := range lists(len(w.Entries), size) {
-			if w.without(list).hasTruth() {
-				smallest = slices.Clone(list)
-				break search
-			}
-		}
-	}
-	return smallest, api.OK
+	canLeave := func(list []int) bool { return w.without(list).hasTruth() }
+	return lists.Shortest(len(w.Entries), canLeave), api.OK
 }
 
 // ProveTruth reports whether the book is valid, and the truth is one of it.
@@ -221,5 +213,5 @@ func span(numbers []int) (Range, api.Errno) {
 	if len(numbers) == 0 {
 		return Range{}, api.ErrFail
 	}
-	return Range{Lo: minimum(numbers...), Hi: slices.Max(numbers)}, api.OK
+	return Range{Lo: lists.Minimum(numbers...), Hi: slices.Max(numbers)}, api.OK
 }

@@ -1,6 +1,9 @@
 package storm
 
-import "hailstone/api"
+import (
+	"hailstone/api"
+	"hailstone/lists"
+)
 
 func tooMany(s Storm) bool {
 	return s.Wide > api.MaxStormWide || s.High > api.MaxStormHigh || len(s.Cards) > api.MaxStormCards
@@ -11,7 +14,7 @@ func (w work) valid() bool {
 	return w.Wide >= 2 && w.High >= 1 && 0 <= w.Fall && w.Fall <= api.MaxStormFall &&
 		w.A.within(0, w.High-1) && w.B.within(0, w.High-1) &&
 		w.Half.within(0, api.MaxStormHalf) && w.Peak.within(1, api.MaxStormPeak) &&
-		each(w.Cards, w.validCard)
+		lists.Each(w.Cards, w.validCard)
 }
 
 func (w work) validCard(c Card) bool {

@@ -5,6 +5,7 @@ import (
 	"slices"
 
 	"hailstone/api"
+	"hailstone/lists"
 )
 
 // cards says something of each card. Beyond the cards that there are it says no.
@@ -72,7 +73,7 @@ func (w work) span(number func(Truth) int) Range {
 	for t := range w.truths() {
 		numbers = append(numbers, number(t))
 	}
-	return Range{Lo: minimum(numbers...), Hi: slices.Max(numbers)}
+	return Range{Lo: lists.Minimum(numbers...), Hi: slices.Max(numbers)}
 }
 
 // witness returns a truth in which some place of the rectangle is in the path, or, if in is false, is not in it.
@@ -150,15 +151,5 @@ type quest struct {
 
 // shortest returns the shortest list that is as it must be; of several ones, the one that is lexicographically first.
 func (w work) shortest(q quest) []int {
-	var found []int
-search:
-	for size := range len(w.Cards) + 1 {
-		for list := range lists(len(w.Cards), size) {
-			if q.must(w, list) {
-				found = slices.Clone(list)
-				break search
-			}
-		}
-	}
-	return found
+	return lists.Shortest(len(w.Cards), func(list []int) bool { return q.must(w, list) })
 }

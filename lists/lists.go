@@ -1,0 +1,62 @@
+// Package lists has what several layers do with lists: it tests their elements, and finds the shortest list of numbers that passes a test.
+package lists
+
+import (
+	"iter"
+	"slices"
+)
+
+// Each reports whether all elements of the list pass the test.
+func Each[T any](list []T, passes func(T) bool) bool {
+	return !slices.ContainsFunc(list, func(x T) bool { return !passes(x) })
+}
+
+// Minimum returns the least one of the numbers, and 0 if there are none.
+func Minimum(numbers ...int) int {
+	if len(numbers) == 0 {
+		return 0
+	}
+	least := numbers[0]
+	for _, n := range numbers {
+		if n < least {
+			least = n
+		}
+	}
+	return least
+}
+
+// Shortest returns the shortest increasing list of numbers below n that passes the test; of several ones, the one that is lexicographically first.
+func Shortest(n int, passes func([]int) bool) []int {
+	var found []int
+search:
+	for size := range n + 1 {
+		for list := range increasing(n, size) {
+			if passes(list) {
+				found = slices.Clone(list)
+				break search
+			}
+		}
+	}
+	return found
+}
+
+// increasing yields all increasing lists of some of the numbers below n, each with as many elements as size says, in lexicographic order. A list is written over by the next one.
+func increasing(n, size int) iter.Seq[[]int] {
+	return func(yield func([]int) bool) {
+		list := make([]int, size)
+		var fill func(at, from int) bool
+		fill = func(at, from int) bool {
+			if at == size {
+				return yield(list)
+			}
+			for x := from; x < n; x++ {
+				list[at] = x
+				if !fill(at+1, x+1) {
+					return false
+				}
+			}
+			return true
+		}
+		fill(0, 0)
+	}
+}

@@ -1,0 +1,101 @@
+package lists_test
+
+import (
+	"slices"
+	"testing"
+
+	"hailstone/lists"
+)
+
+func ints(l ...int) []int { return l }
+
+func TestEach(t *testing.T) {
+	even := func(n int) bool { return n%2 == 0 }
+	for _, x := range []struct {
+		list []int
+		want bool
+	}{{nil, true}, {ints(), true}, {ints(2), true}, {ints(3), false}, {ints(2, 4, 6), true}, {ints(1, 4, 6), false}, {ints(2, 4, 7), false}} {
+		if is := lists.Each(x.list, even); is != x.want {
+			t.Errorf("Each of %v: %v", x.list, is)
+		}
+	}
+	if !lists.Each([]string{"a", "b"}, func(s string) bool { return s < "c" }) {
+		t.Errorf("Each of strings")
+	}
+}
+
+func TestMinimum(t *testing.T) {
+	for _, x := range []struct {
+		list []int
+		want int
+	}{{nil, 0}, {ints(5), 5}, {ints(-5), -5}, {ints(3, 1, 2), 1}, {ints(1, 2, 3), 1}, {ints(3, 2, 1), 1}, {ints(4, -1, -1), -1}} {
+		if n := lists.Minimum(x.list...); n != x.want {
+			t.Errorf("Minimum of %v: %d", x.list, n)
+		}
+	}
+}
+
+func TestShortest(t *testing.T) {
+	has := func(numbers ...int) func([]int) bool {
+		return func(list []int) bool {
+			return lists.Each(numbers, func(n int) bool { return slices.Contains(list, n) })
+		}
+	}
+	sums := func(sum int) func([]int) bool {
+		return func(list []int) bool {
+			rest := sum
+			for _, n := range list {
+				rest -= n
+			}
+			return rest == 0
+		}
+	}
+	for _, x := range []struct {
+		name   string
+		n      int
+		passes func([]int) bool
+		want   []int
+	}{
+		{"no numbers", 0, has(), nil},
+		{"no list of no numbers", 0, has(0), nil},
+		{"the empty list", 4, has(), nil},
+		{"one number", 4, has(2), ints(2)},
+		{"the first one", 4, func(list []int) bool { return len(list) == 1 }, ints(0)},
+		{"two numbers", 4, has(3, 1), ints(1, 3)},
+		{"all numbers", 4, has(0, 1, 2, 3), ints(0, 1, 2, 3)},
+		{"none passes", 4, has(4), nil},
+		{"the shortest one", 6, sums(5), ints(5)},
+		{"the lexicographically first one", 6, sums(6), ints(1, 5)},
+		{"three numbers", 6, sums(10), ints(1, 4, 5)},
+	} {
+		if l := lists.Shortest(x.n, x.passes); !slices.Equal(l, x.want) {
+			t.Errorf("%s: %v, not %v", x.name, l, x.want)
+		}
+	}
+}
+
+// TestOrderOfLists checks that all lists are tried, each once, the shorter ones first, those of one length in lexicographic order.
+func TestOrderOfLists(t *testing.T) {
+	var tried [][]int
+	found := lists.Shortest(3, func(list []int) bool {
+		tried = append(tried, slices.Clone(list))
+		return false
+	})
+	want := [][]int{{}, {0}, {1}, {2}, {0, 1}, {0, 2}, {1, 2}, {0, 1, 2}}
+	if len(found) != 0 || !slices.EqualFunc(tried, want, slices.Equal[[]int]) {
+		t.Errorf("%v, %v", tried, found)
+	}
+}
+
+// TestMemory checks that the list that is found is not written over.
+func TestMemory(t *testing.T) {
+	var last []int
+	found := lists.Shortest(5, func(list []int) bool {
+		last = list
+		return len(list) == 2
+	})
+	last[0], last[1] = 77, 77
+	if !slices.Equal(found, ints(0, 1)) {
+		t.Errorf("%v", found)
+	}
+}
