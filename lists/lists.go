@@ -1,4 +1,4 @@
-// Package lists has what several layers do with lists: it tests their elements, and finds the shortest list of numbers that passes a test.
+// Package lists has what several layers do with lists: it tests their elements, finds the shortest list of numbers that passes a test, and chooses numbers of ranges.
 package lists
 
 import (

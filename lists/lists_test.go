@@ -99,3 +99,47 @@ func TestMemory(t *testing.T) {
 		t.Errorf("%v", found)
 	}
 }
+
+func to(low, high int) lists.Range { return lists.Range{Lo: low, Hi: high} }
+
+func TestChoices(t *testing.T) {
+	for _, x := range []struct {
+		name   string
+		ranges []lists.Range
+		want   [][]int
+	}{
+		{"no ranges", nil, [][]int{{}}},
+		{"an empty list", []lists.Range{}, [][]int{{}}},
+		{"one number", []lists.Range{to(7, 7)}, [][]int{{7}}},
+		{"one range", []lists.Range{to(-1, 1)}, [][]int{{-1}, {0}, {1}}},
+		{"two ranges", []lists.Range{to(2, 3), to(5, 7)}, [][]int{{2, 5}, {2, 6}, {2, 7}, {3, 5}, {3, 6}, {3, 7}}},
+		{"a single number in the middle", []lists.Range{to(0, 1), to(4, 4), to(0, 1)}, [][]int{{0, 4, 0}, {0, 4, 1}, {1, 4, 0}, {1, 4, 1}}},
+	} {
+		var got [][]int
+		for l := range lists.Choices(x.ranges) {
+			got = append(got, slices.Clone(l))
+		}
+		if !slices.EqualFunc(got, x.want, slices.Equal[[]int]) || lists.Number(x.ranges) != len(x.want) {
+			t.Errorf("%s: %v, %d, not %v", x.name, got, lists.Number(x.ranges), x.want)
+		}
+	}
+}
+
+// TestSomeChoices checks that a range over the choices can be left, and begun again.
+func TestSomeChoices(t *testing.T) {
+	ranges := []lists.Range{to(0, 9), to(0, 9), to(0, 9)}
+	for stop := 1; stop <= 1000; stop *= 10 {
+		for range 2 {
+			number := 0
+			for range lists.Choices(ranges) {
+				number++
+				if number == stop {
+					break
+				}
+			}
+			if number != stop {
+				t.Errorf("%d choices, not %d", number, stop)
+			}
+		}
+	}
+}

@@ -63,7 +63,7 @@ func CheckBook(b Book) api.Errno {
 	if !w.valid() {
 		return api.ErrArg
 	}
-	if w.truthsAtMost() > api.MaxParcelTruths {
+	if lists.Number(w.ranges()) > api.MaxParcelTruths {
 		return api.ErrLimit
 	}
 	return api.OK

@@ -6,6 +6,7 @@ import (
 	"slices"
 
 	"hailstone/api"
+	"hailstone/lists"
 )
 
 // work is a book at work. It must not have more entries than MaxParcelEntries.
@@ -45,50 +46,29 @@ func (w work) upTo(last int) work {
 }
 
 // ranges returns the ranges Day of all entries, and then the ranges Sown of all parcels. An entry that is left out has a single day, which nothing depends on.
-func (w work) ranges() []Range {
-	var list []Range
+func (w work) ranges() []lists.Range {
+	var list []lists.Range
 	for i, e := range w.Entries {
 		if w.out[i] {
 			e.Day.Hi = e.Day.Lo
 		}
-		list = append(list, e.Day)
+		list = append(list, lists.Range(e.Day))
 	}
 	for _, p := range w.Parcels {
-		list = append(list, p.Sown)
+		list = append(list, lists.Range(p.Sown))
 	}
 	return list
-}
-
-func (r Range) size() int { return r.Hi - r.Lo + 1 }
-
-func (w work) truthsAtMost() int {
-	product := 1
-	for _, r := range w.ranges() {
-		product *= r.size()
-	}
-	return product
 }
 
 // choices yields every choice of days, whether the entries are possible on them or not. The lists of a choice are written over by the next one.
 func (w work) choices() iter.Seq[Truth] {
 	return func(yield func(Truth) bool) {
-		ranges := w.ranges()
-		days := make([]int, len(ranges))
 		entries := len(w.Entries)
-		var choose func(at int) bool
-		choose = func(at int) bool {
-			if at == len(ranges) {
-				return yield(Truth{Days: days[:entries], Sown: days[entries:]})
+		for days := range lists.Choices(w.ranges()) {
+			if !yield(Truth{Days: days[:entries], Sown: days[entries:]}) {
+				return
 			}
-			for n := range ranges[at].size() {
-				days[at] = ranges[at].Lo + n
-				if !choose(at + 1) {
-					return false
-				}
-			}
-			return true
 		}
-		choose(0)
 	}
 }
 
