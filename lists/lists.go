@@ -1,7 +1,8 @@
-// Package lists has what several layers do with lists: it tests their elements, finds the shortest list of numbers that passes a test, and chooses numbers of ranges.
+// Package lists has what several layers do with lists: it tests their elements and whether they rise, finds the shortest list of numbers that passes a test, and chooses numbers of ranges.
 package lists
 
 import (
+	"cmp"
 	"iter"
 	"slices"
 )
@@ -9,6 +10,16 @@ import (
 // Each reports whether all elements of the list pass the test.
 func Each[T any](list []T, passes func(T) bool) bool {
 	return !slices.ContainsFunc(list, func(x T) bool { return !passes(x) })
+}
+
+// Rises reports whether each element of the list is greater than the one before it.
+func Rises[T cmp.Ordered](list []T) bool {
+	for i := 1; i < len(list); i++ {
+		if list[i] <= list[i-1] {
+			return false
+		}
+	}
+	return true
 }
 
 // Minimum returns the least one of the numbers, and 0 if there are none.

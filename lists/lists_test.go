@@ -24,6 +24,20 @@ func TestEach(t *testing.T) {
 	}
 }
 
+func TestRises(t *testing.T) {
+	for _, x := range []struct {
+		list []int
+		want bool
+	}{{nil, true}, {ints(), true}, {ints(-7), true}, {ints(1, 2), true}, {ints(2, 2), false}, {ints(2, 1), false}, {ints(-1, 0, 5, 6), true}, {ints(0, 0, 5, 6), false}, {ints(-1, 0, 5, 5), false}, {ints(-1, 5, 0, 6), false}} {
+		if is := lists.Rises(x.list); is != x.want {
+			t.Errorf("Rises of %v: %v", x.list, is)
+		}
+	}
+	if !lists.Rises([]string{"a", "b"}) || lists.Rises([]string{"b", "a"}) {
+		t.Errorf("Rises of strings")
+	}
+}
+
 func TestMinimum(t *testing.T) {
 	for _, x := range []struct {
 		list []int

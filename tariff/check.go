@@ -50,12 +50,7 @@ func (l tariffs) froms() []int {
 
 // risesFromZero reports whether the list rises, and its first element is 0.
 func risesFromZero(list []int) bool {
-	for i, n := range list {
-		if i > 0 && n <= list[i-1] {
-			return false
-		}
-	}
-	return len(list) > 0 && list[0] == 0
+	return len(list) > 0 && list[0] == 0 && lists.Rises(list)
 }
 
 func (l tariffs) validClaim(c Claim) bool {
