@@ -112,17 +112,6 @@ func (w work) canHold(claims []Claim) bool {
 	return false
 }
 
-// without returns all claims but those of the list.
-func (w work) without(list []int) []Claim {
-	var rest []Claim
-	for i, x := range w.Claims {
-		if !slices.Contains(list, i) {
-			rest = append(rest, x)
-		}
-	}
-	return rest
-}
-
 // question is asked about a society of all settlements.
 type question struct {
 	ask func(settlement, int) int

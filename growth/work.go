@@ -102,13 +102,7 @@ func (w work) with(visits []Visit) work {
 
 // canLeave reports whether the visits of the list can be left out.
 func (w work) canLeave(list []int) bool {
-	var rest []Visit
-	for i, v := range w.Visits {
-		if !slices.Contains(list, i) {
-			rest = append(rest, v)
-		}
-	}
-	return w.with(rest).hasTruth()
+	return w.with(lists.Without(w.Visits, list)).hasTruth()
 }
 
 // span returns the range from the minimum to the maximum of a number in all truths of the field, of which there must be one.

@@ -1,4 +1,4 @@
-// Package lists has what several layers do with lists: it tests their elements and whether they rise, finds the shortest list of numbers that passes a test, and chooses numbers of ranges.
+// Package lists has what several layers do with lists: it tests their elements and whether they rise, leaves elements out, yields increasing lists of numbers, finds the shortest one that passes a test, and chooses numbers of ranges.
 package lists
 
 import (
@@ -36,12 +36,23 @@ func Minimum(numbers ...int) int {
 	return least
 }
 
+// Without returns the elements of the list but for those with these indexes.
+func Without[T any](list []T, out []int) []T {
+	var rest []T
+	for i, x := range list {
+		if !slices.Contains(out, i) {
+			rest = append(rest, x)
+		}
+	}
+	return rest
+}
+
 // Shortest returns the shortest increasing list of numbers below n that passes the test; of several ones, the one that is lexicographically first.
 func Shortest(n int, passes func([]int) bool) []int {
 	var found []int
 search:
 	for size := range n + 1 {
-		for list := range increasing(n, size) {
+		for list := range Increasing(n, size) {
 			if passes(list) {
 				found = slices.Clone(list)
 				break search
@@ -51,8 +62,8 @@ search:
 	return found
 }
 
-// increasing yields all increasing lists of some of the numbers below n, each with as many elements as size says, in lexicographic order. A list is written over by the next one.
-func increasing(n, size int) iter.Seq[[]int] {
+// Increasing yields all increasing lists of some of the numbers below n, each with as many elements as size says, in lexicographic order. A list is written over by the next one.
+func Increasing(n, size int) iter.Seq[[]int] {
 	return func(yield func([]int) bool) {
 		list := make([]int, size)
 		var fill func(at, from int) bool

@@ -49,6 +49,62 @@ func TestMinimum(t *testing.T) {
 	}
 }
 
+func TestWithout(t *testing.T) {
+	for _, x := range []struct{ list, out, want []int }{
+		{nil, nil, nil},
+		{nil, ints(0), nil},
+		{ints(7), nil, ints(7)},
+		{ints(7), ints(), ints(7)},
+		{ints(7), ints(0), nil},
+		{ints(7, 8, 9), ints(0), ints(8, 9)},
+		{ints(7, 8, 9), ints(1), ints(7, 9)},
+		{ints(7, 8, 9), ints(2), ints(7, 8)},
+		{ints(7, 8, 9), ints(0, 2), ints(8)},
+		{ints(7, 8, 9), ints(2, 1, 2), ints(7)},
+		{ints(7, 8, 9), ints(0, 1, 2), nil},
+		{ints(7, 8, 9), ints(-1, 3, 7, 8, 9), ints(7, 8, 9)},
+	} {
+		list, out := slices.Clone(x.list), slices.Clone(x.out)
+		rest := lists.Without(list, out)
+		if !slices.Equal(rest, x.want) {
+			t.Errorf("%v without %v: %v, not %v", x.list, x.out, rest, x.want)
+		}
+		for i := range rest {
+			rest[i] = 77
+		}
+		if !slices.Equal(list, x.list) || !slices.Equal(out, x.out) {
+			t.Errorf("%v without %v: written to", x.list, x.out)
+		}
+	}
+}
+
+func TestIncreasing(t *testing.T) {
+	for _, x := range []struct {
+		n, size int
+		want    [][]int
+	}{
+		{0, 0, [][]int{{}}},
+		{0, 1, nil},
+		{3, 0, [][]int{{}}},
+		{3, 1, [][]int{{0}, {1}, {2}}},
+		{3, 2, [][]int{{0, 1}, {0, 2}, {1, 2}}},
+		{3, 3, [][]int{{0, 1, 2}}},
+		{3, 4, nil},
+		{4, 2, [][]int{{0, 1}, {0, 2}, {0, 3}, {1, 2}, {1, 3}, {2, 3}}},
+	} {
+		var got [][]int
+		for l := range lists.Increasing(x.n, x.size) {
+			got = append(got, slices.Clone(l))
+		}
+		if !slices.EqualFunc(got, x.want, slices.Equal[[]int]) {
+			t.Errorf("%d of %d: %v, not %v", x.size, x.n, got, x.want)
+		}
+		for range lists.Increasing(x.n, x.size) {
+			break
+		}
+	}
+}
+
 func TestShortest(t *testing.T) {
 	has := func(numbers ...int) func([]int) bool {
 		return func(list []int) bool {
